@@ -44,17 +44,31 @@ func fewWants(list []MateWant) bool {
 }
 
 func eachWantOk(list []MateWant) bool {
-	for _, w := range list {
-		if !wantOk(w) {
+	return all(list, wantOk)
+}
+
+func wantsAscend(list []MateWant) bool {
+	return ascends(list, wantCopy)
+}
+
+func wantCopy(w MateWant) string {
+	return w.Copy
+}
+
+// all says whether each of a list is ok.
+func all[T any](list []T, ok func(T) bool) bool {
+	for _, x := range list {
+		if !ok(x) {
 			return false
 		}
 	}
 	return true
 }
 
-func wantsAscend(list []MateWant) bool {
+// ascends says whether a list does so by the names of what stands in it.
+func ascends[T any](list []T, name func(T) string) bool {
 	for i := 1; i < len(list); i++ {
-		if list[i-1].Copy >= list[i].Copy {
+		if name(list[i-1]) >= name(list[i]) {
 			return false
 		}
 	}

@@ -39,18 +39,12 @@ func MateAlive(r MateRun) bool {
 
 // MateRunsOk says whether runs are such.
 func MateRunsOk(list []MateRun, clock int) bool {
-	if len(list) > 2*MateMaxWants {
-		return false
-	}
-	for i, r := range list {
-		if i > 0 && list[i-1].Want.Copy >= r.Want.Copy {
-			return false
-		}
-		if !runOf(r).ok(clock) {
-			return false
-		}
-	}
-	return true
+	return len(list) <= 2*MateMaxWants && ascends(list, runCopy) &&
+		all(list, func(r MateRun) bool { return runOf(r).ok(clock) })
+}
+
+func runCopy(r MateRun) string {
+	return r.Want.Copy
 }
 
 // runState is the State of a run.

@@ -77,3 +77,63 @@ func untouched[T comparable](t *testing.T, list []T, behind T, f func(list []T))
 		t.Errorf("written into: %+v, before %+v", whole, before)
 	}
 }
+
+// quietMate is up, and has heard nothing yet.
+func quietMate() impl.Mate {
+	return impl.Mate{Name: "a", Up: true, Clock: 50}
+}
+
+// busyMate has something in each of its lists.
+func busyMate() impl.Mate {
+	c, d, e := plainWant(), plainWant(), plainWant()
+	c.Hold = "h"
+	d.Copy = "d"
+	e.Copy, e.Hold = "e", "k"
+	x := plainWant()
+	x.Copy, x.Hold = "x", "z"
+	return impl.Mate{
+		Name: "a", Up: true, Clock: 50, Known: true, Seen: 7,
+		Wants: []impl.MateWant{c, d, e},
+		Runs: []impl.MateRun{
+			{Want: c, State: impl.MateReady, Left: 3, Until: 62},
+			{Want: d, State: impl.MatePulling, Left: 2},
+			{Want: e, State: impl.MateWaiting, Falls: 1, Until: 30},
+			{Want: x, State: impl.MateStopping, Left: 2, Until: 60},
+		},
+		Asks:  []impl.MateAsk{{Hold: "h", Copy: "c", First: 40, At: 46}, {Hold: "k", Copy: "e", First: 44, At: 50}, {Hold: "z", Copy: "x", First: 0, At: 44}},
+		Gives: []impl.MateAsk{{Hold: "b", Copy: "q", First: 20, At: 26}, {Hold: "w", Copy: "q", First: 9, At: 9}},
+	}
+}
+
+// downMate has all that is left of one that is down.
+func downMate() impl.Mate {
+	m := busyMate()
+	waits := m.Runs[0]
+	waits.Want.Copy = "v"
+	waits.State, waits.Left, waits.Until = impl.MateWaiting, 0, 40
+	plain := m.Runs[1]
+	plain.State = impl.MateStarting
+	return impl.Mate{Name: "a", Clock: 50, Runs: []impl.MateRun{m.Runs[0], plain, waits, m.Runs[3]}}
+}
+
+// deafMate has risen from a fall, and has heard nothing since.
+func deafMate() impl.Mate {
+	m := downMate()
+	m.Up = true
+	return m
+}
+
+// asksOf gives n asks that are ok at each clock from 20 on, of the holds
+// front0, front1 .. in their order.
+func asksOf(n int, front string) []impl.MateAsk {
+	var list []impl.MateAsk
+	for i := range n {
+		list = append(list, impl.MateAsk{Hold: fmt.Sprintf("%s%02d", front, i), Copy: "c", First: 10, At: 20})
+	}
+	return list
+}
+
+// same says whether two values tell the same, the empty list and nil being one.
+func same(a, b any) bool {
+	return fmt.Sprintf("%+v", a) == fmt.Sprintf("%+v", b)
+}
