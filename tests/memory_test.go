@@ -118,29 +118,28 @@ func callsOfMate() map[string]func(m impl.Mate) []any {
 	return calls
 }
 
-func TestMatesAreNotWrittenInto(t *testing.T) {
-	for _, m := range memoryMates() {
-		for name, call := range callsOfMate() {
-			m := roomyMate(m)
-			before := wholeMate(m)
-			call(m)
-			if after := wholeMate(m); after != before {
-				t.Errorf("%s writes into %s: %s", name, before, after)
+// leftAlone sees that calls write into no value, nor behind the ends of its
+// lists, and that what they answer is new memory.
+func leftAlone[T any](t *testing.T, values []T, calls map[string]func(v T) []any, roomy func(v T) T, whole func(v T) string) {
+	t.Helper()
+	for _, v := range values {
+		for name, call := range calls {
+			for _, v := range []T{v, roomy(v)} {
+				before := whole(v)
+				answers := call(v)
+				if after := whole(v); after != before {
+					t.Errorf("%s writes into %s: %s", name, before, after)
+				}
+				if !apart(spansOf(answers...), spansOf(v)) {
+					t.Errorf("%s of %s shares memory", name, before)
+				}
 			}
 		}
 	}
 }
 
-func TestAnswersOnMatesAreNewMemory(t *testing.T) {
-	for _, m := range memoryMates() {
-		for name, call := range callsOfMate() {
-			for _, m := range []impl.Mate{m, roomyMate(m)} {
-				if !apart(spansOf(call(m)...), spansOf(m)) {
-					t.Errorf("%s of %+v shares memory", name, m)
-				}
-			}
-		}
-	}
+func TestMatesAreLeftAlone(t *testing.T) {
+	leftAlone(t, memoryMates(), callsOfMate(), roomyMate, wholeMate)
 }
 
 // The lists of a mate that is handed in may share memory; those of the answer do not.

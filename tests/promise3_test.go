@@ -6,13 +6,15 @@ import (
 	"loop.example/wharfmate/impl"
 )
 
-// leasedBehindATick sees that a tick of m keeps promise 3.
+// leasedBehindATick sees that a tick of m keeps promise 3, and that what it
+// sends has a form.
 func leasedBehindATick(t *testing.T, m impl.Mate, rate int) impl.Mate {
 	t.Helper()
 	if !impl.MateValid(m) {
 		t.Fatalf("not valid: %+v", m)
 	}
-	got, _ := impl.MateTick(m, rate)
+	got, sent := impl.MateTick(m, rate)
+	haveForms(t, sent)
 	for _, r := range got.Runs {
 		if impl.MateAlive(r) && r.Want.Hold != "" && r.Until < got.Clock+4 {
 			t.Errorf("a tick of %d from %d: %+v is alive at %d", rate, m.Clock, r, got.Clock)

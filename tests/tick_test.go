@@ -23,6 +23,7 @@ func tickTo(t *testing.T, m impl.Mate, rate int, want impl.Mate, parcels ...impl
 	if !impl.MateValid(got) {
 		t.Errorf("a tick of %d leads to %+v, which is not valid", rate, got)
 	}
+	haveForms(t, sent)
 }
 
 func asked(hold, copy string, at int) impl.MateParcel {
