@@ -319,7 +319,7 @@ func TestSessionSafe(t *testing.T) {
 	)
 }
 
-// The README's case to avoid is the one way to this answer.
+// The README's case to avoid: no other way to this answer is known.
 func TestSessionNotSafe(t *testing.T) {
 	talk(t,
 		"want a x 1 v 0 0 0 100 -> code 0",
